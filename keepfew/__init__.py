@@ -1,0 +1,1 @@
+"""Keepfew: a shelf of a few places, and a row of wishes."""
