@@ -87,17 +87,41 @@ def short_rows(letters, longest):
     return [list(row) for many in range(longest + 1) for row in product(letters, repeat=many)]
 
 
-def long_rows(things, many):
-    """Some rows of 60 wishes of the things, uneven, and the same ones each time."""
+def long_rows(things, many, length=60):
+    """Some long rows of wishes of the things, uneven, and the same ones each time."""
     found = []
     state = 7
     for _ in range(many):
         row = []
-        for _ in range(60):
+        for _ in range(length):
             state = (state * 1103515245 + 12345) % 2147483648
             most = len(things) if state // 65536 % 3 else (len(things) + 1) // 2
             row.append(things[state // 1024 % most])
         found.append(row)
+    return found
+
+
+def names(many):
+    """So many unlike names."""
+    letters = "abcdefghijklmnopqrstuvwxyz"
+    return [first + second for first in letters for second in letters][:many]
+
+
+def shaped_rows():
+    """Rows of many shapes: none and 300 wishes, few things and many, loops and turns."""
+    found = [[], ["a"], ["a", "a"], ["a", "b"], ["a", "b", "a"], ["abcdefgh"] * 300, names(300)]
+    for many in (2, 3, 20, 21, 40):
+        things = names(many)
+        found.append((things * 300)[:300])
+        found.append(((things + things[::-1]) * 300)[:300])
+    for many in (2, 4, 7, 19, 30):
+        found += long_rows(names(many), 3)
+    for many in (3, 9, 25, 100):
+        found += long_rows(names(many), 1, 300)
+    for many in (3, 8, 24):
+        # Now of these things, now of those, and one of all amid them.
+        near, far = long_rows(names(many), 2, 50), long_rows(names(3 * many)[many:], 2, 49)
+        found.append(near[0] + ["z"] + far[0] + ["z"] + near[1] + ["z"] + far[1] + ["z"])
     return found
 
 

@@ -3,7 +3,7 @@
 import inspect
 import unittest
 
-from keepfew import errors, goings, shelves
+from keepfew import bars, blocks, depths, errors, goings, shelves
 
 
 class Errors(unittest.TestCase):
@@ -39,12 +39,24 @@ class Arguments(unittest.TestCase):
         self.check(goings.best, ["places", "wishes"])
         self.check(goings.missed_in, ["found"])
 
+    def test_depths_bars_and_blocks(self):
+        self.check(depths.depths, ["wishes"])
+        self.check(depths.missed_by_places, ["wishes"])
+        self.check(bars.stretches, ["wishes"])
+        self.check(bars.bars, ["places", "wishes"])
+        self.check(blocks.blocks, ["places", "wishes"])
+
     def test_by_keyword(self):
         self.assertEqual(shelves.shelf_of(rule="old", places=2).wish(name="a"), (False, None))
         found = goings.going(rule="old", places=2, wishes=["a"])
         self.assertEqual(goings.missed_in(found=found), 1)
         self.assertEqual(goings.best(places=2, wishes=["a"]).went, [None])
         self.assertEqual(goings.Going(were_met=[True], went=[None]).were_met, [True])
+        self.assertEqual(depths.depths(wishes=["a", "a"]), [None, 1])
+        self.assertEqual(depths.missed_by_places(wishes=["a"]), [1] * 20)
+        self.assertEqual(bars.stretches(wishes=["a", "a"]), [(0, 1)])
+        self.assertEqual(bars.bars(places=2, wishes=list("abcab")), [2])
+        self.assertEqual(blocks.blocks(places=2, wishes=["a"]), [(0, 0)])
 
 
 class Places(unittest.TestCase):
@@ -55,6 +67,10 @@ class Places(unittest.TestCase):
             self.assertEqual(getattr(shelves, name).__module__, "keepfew.shelves")
         for name in ("Going", "going", "best", "missed_in"):
             self.assertEqual(getattr(goings, name).__module__, "keepfew.goings")
+        for call, module in ((depths.depths, "depths"), (depths.missed_by_places, "depths"),
+                             (bars.stretches, "bars"), (bars.bars, "bars"),
+                             (blocks.blocks, "blocks")):
+            self.assertEqual(call.__module__, "keepfew." + module)
 
     def test_the_three_stand_straight_under_shelf(self):
         self.assertEqual(shelves.Shelf.__bases__, (object,))
@@ -102,6 +118,33 @@ class Kinds(unittest.TestCase):
             self.assertIs(type(found.went), list)
             self.assertEqual([type(met) for met in found.were_met], [bool] * 5)
             self.assertIs(type(goings.missed_in(found)), int)
+
+    def test_of_depths(self):
+        found = depths.depths(list("abba"))
+        self.assertIs(type(found), list)
+        self.assertEqual([type(depth) for depth in found], [type(None)] * 2 + [int] * 2)
+        for wishes in ([], list("abba")):
+            found = depths.missed_by_places(wishes)
+            self.assertIs(type(found), list)
+            self.assertEqual([type(many) for many in found], [int] * 20)
+
+    def check_pairs(self, found, many):
+        self.assertIs(type(found), list)
+        self.assertEqual([type(pair) for pair in found], [tuple] * many)
+        for pair in found:
+            self.assertEqual([type(number) for number in pair], [int] * 2)
+
+    def test_of_bars(self):
+        self.check_pairs(bars.stretches([]), 0)
+        self.check_pairs(bars.stretches(list("abcab")), 2)
+        for wishes, many in (([], 0), (list("abcab"), 1)):
+            found = bars.bars(2, wishes)
+            self.assertIs(type(found), list)
+            self.assertEqual([type(bar) for bar in found], [int] * many)
+
+    def test_of_blocks(self):
+        self.check_pairs(blocks.blocks(2, []), 0)
+        self.check_pairs(blocks.blocks(2, list("abcab")), 3)
 
 
 if __name__ == "__main__":

@@ -2,6 +2,9 @@
 
 import unittest
 
+from keepfew.bars import bars, stretches
+from keepfew.blocks import blocks
+from keepfew.depths import depths, missed_by_places
 from keepfew.errors import BadName
 from keepfew.goings import Going, best, going, missed_in
 from keepfew.shelves import Cold, Marked, Old
@@ -138,6 +141,52 @@ class OfGoings(unittest.TestCase):
         kept = (list(found.were_met), list(found.went))
         self.assertEqual(missed_in(found), missed_in(found))
         self.assertEqual((found.were_met, found.went), kept)
+
+
+# Each way from wishes to a list that tells of them.
+LISTS = (
+    depths, missed_by_places, stretches,
+    lambda wishes: bars(1, wishes), lambda wishes: bars(2, wishes),
+    lambda wishes: blocks(1, wishes), lambda wishes: blocks(2, wishes),
+)
+
+
+class OfDepthsBarsAndBlocks(unittest.TestCase):
+
+    def test_wishes_stay_as_they_were(self):
+        for way in LISTS:
+            for wishes in (list("abcabdca"), []):
+                kept = list(wishes)
+                way(wishes)
+                self.assertEqual(wishes, kept)
+
+    def test_what_is_told_does_not_follow_the_wishes(self):
+        for way in LISTS:
+            wishes = list("abcabdca")
+            found = way(wishes)
+            kept = list(found)
+            spoil(wishes)
+            self.assertEqual(found, kept)
+
+    def test_changed_wishes_are_read_anew(self):
+        for way in LISTS:
+            wishes = list("abcabdca")
+            kept = way(wishes)
+            spoil(wishes)
+            self.assertNotEqual(way(wishes), kept)
+            self.assertEqual(way(list("abcabdca")), kept)
+
+    def test_changed_lists_change_nothing_told_later(self):
+        for way in LISTS:
+            for wishes in (list("abcabdca"), []):
+                first, second = way(wishes), way(wishes)
+                kept = list(first)
+                spoil(first)
+                self.assertEqual(second, kept)
+                self.assertEqual(way(wishes), kept)
+                for other in LISTS:
+                    spoil(other(wishes))
+                self.assertEqual(way(wishes), kept)
 
 
 if __name__ == "__main__":

@@ -2,6 +2,9 @@
 
 import unittest
 
+from keepfew.bars import bars, stretches
+from keepfew.blocks import blocks
+from keepfew.depths import depths, missed_by_places
 from keepfew.errors import BadName, BadPlaces, BadRule, BadWishes, KeepError
 from keepfew.goings import best, going
 from keepfew.shelves import Cold, Marked, Old, shelf_of
@@ -9,6 +12,8 @@ from tests.helper import (WRONG_NAMES, WRONG_PLACES, WRONG_RULES, assert_refused
                           wish_all, wrong_wishes)
 
 RULES = ("old", "cold", "marked")
+OF_WISHES = (depths, missed_by_places, stretches)
+OF_PLACES_AND_WISHES = (best, bars, blocks)
 
 
 class Alone(unittest.TestCase):
@@ -29,8 +34,9 @@ class Alone(unittest.TestCase):
             for rule in RULES:
                 assert_refused(self, BadPlaces, shelf_of, rule, wrong)
                 assert_refused(self, BadPlaces, going, rule, wrong, ["a"])
-            assert_refused(self, BadPlaces, best, wrong, ["a"])
-            assert_refused(self, BadPlaces, best, wrong, [])
+            for call in OF_PLACES_AND_WISHES:
+                assert_refused(self, BadPlaces, call, wrong, ["a"])
+                assert_refused(self, BadPlaces, call, wrong, [])
 
     def test_rules(self):
         for wrong in WRONG_RULES:
@@ -42,14 +48,20 @@ class Alone(unittest.TestCase):
         for wrong in wrong_wishes():
             for rule in RULES:
                 assert_refused(self, BadWishes, going, rule, 2, wrong)
-            assert_refused(self, BadWishes, best, 2, wrong)
+            for call in OF_PLACES_AND_WISHES:
+                assert_refused(self, BadWishes, call, 2, wrong)
+            for call in OF_WISHES:
+                assert_refused(self, BadWishes, call, wrong)
 
     def test_at_the_bounds_nothing_is_refused(self):
-        for places in (1, 20):
-            for wishes in ([], ["abcdefgh"] * 300):
+        for wishes in ([], ["abcdefgh"] * 300):
+            for places in (1, 20):
                 for rule in RULES:
                     going(rule, places, wishes)
-                best(places, wishes)
+                for call in OF_PLACES_AND_WISHES:
+                    call(places, wishes)
+            for call in OF_WISHES:
+                call(wishes)
 
 
 class Together(unittest.TestCase):
@@ -71,14 +83,18 @@ class Together(unittest.TestCase):
         for places in WRONG_PLACES:
             for wishes in (None, "a", ("a",), ["a", "B"], [None], ["a"] * 301):
                 assert_refused(self, BadPlaces, going, "cold", places, wishes)
-                assert_refused(self, BadPlaces, best, places, wishes)
+                for call in OF_PLACES_AND_WISHES:
+                    assert_refused(self, BadPlaces, call, places, wishes)
 
 
 class Afterwards(unittest.TestCase):
 
     def test_a_refusal_changes_nothing_handed_in(self):
-        for call in (lambda wishes: best(2, wishes), lambda wishes: going("old", 2, wishes),
-                     lambda wishes: going("old", 0, wishes)):
+        calls = [lambda wishes: going("old", 2, wishes), lambda wishes: going("old", 0, wishes)]
+        for places in (0, 2):
+            for call in OF_PLACES_AND_WISHES:
+                calls.append(lambda wishes, call=call, places=places: call(places, wishes))
+        for call in calls + list(OF_WISHES):
             wishes = ["a", "b", "C", "a"]
             self.assertRaises(KeepError, call, wishes)
             self.assertEqual(wishes, ["a", "b", "C", "a"])
@@ -92,6 +108,18 @@ class Afterwards(unittest.TestCase):
             after = [(found.were_met, found.went) for found in (best(2, wishes),
                                                                 going("marked", 2, wishes))]
             self.assertEqual(after, before)
+
+    def test_a_refusal_changes_nothing_told_later_of_depths_bars_and_blocks(self):
+        for wishes in long_rows("abcde", 3):
+            for call in OF_WISHES:
+                before = call(wishes)
+                self.assertRaises(BadWishes, call, wishes + ["A"])
+                self.assertEqual(call(wishes), before)
+            for call in (bars, blocks):
+                before = call(2, wishes)
+                self.assertRaises(BadWishes, call, 2, wishes + ["A"])
+                self.assertRaises(BadPlaces, call, 21, wishes)
+                self.assertEqual(call(2, wishes), before)
 
 
 if __name__ == "__main__":
